@@ -29,6 +29,24 @@ def named(names, form=0):
     return record(*[(name, 0, form) for name in names])
 
 
+def choice(*choices):
+    """Each choice: (its name, its form)."""
+    row = [number for one in choices for number in one]
+    return [5, len(row)] + row
+
+
+def is_one(form, row):
+    return [6, form, len(row)] + list(row)
+
+
+def some(form):
+    return [7, form]
+
+
+def within(form, other):
+    return [8, form, other]
+
+
 def joined(calls):
     return [number for call in calls for number in call]
 
@@ -55,6 +73,14 @@ def ask_one(call):
 def ask_full(call):
     """What the call answers where there are 16 forms already."""
     return ask(*([num(0, 0)] * 16 + [call]))[-1]
+
+
+def ask_of(forms, *questions):
+    """What the questions answer behind these forms, which are all taken."""
+    told = ask(*forms, *questions)
+    if told[:len(forms)] != [[k] for k in range(len(forms))]:
+        raise AssertionError(f"not all forms are taken: {told[:len(forms)]}")
+    return told[len(forms):]
 
 
 def difference(given, expected):

@@ -4,7 +4,8 @@ import contextlib
 import io
 import unittest
 
-from tests.calls import BEGIN, GREATEST, difference, joined, list_of, named, num, record, text
+from tests.calls import (
+    BEGIN, GREATEST, choice, difference, is_one, joined, list_of, named, num, record, some, text, within)
 from understood.desk import UnknownCall, answers
 
 
@@ -20,8 +21,13 @@ class Untouchable(list):
 
 SOME_OF_EACH = joined([
     BEGIN, num(2, 3), num(3, 2), text(100), text(101), list_of(3, 0, 32), list_of(3, 0, 33),
-    record((1, 0, 0), (2, 1, 3)), record((2, 0, 0), (1, 1, 3)), record(), BEGIN, record()])
-GIVEN_FOR_THEM = [1, 0, 1, 0, 1, -22, 1, 1, 1, -22, 1, 2, 1, -22, 1, 3, 1, -22, 1, 4, 1, 0, 1, 0]
+    record((1, 0, 0), (2, 1, 3)), record((2, 0, 0), (1, 1, 3)), record(), choice((7, 0), (8, 6)), choice(),
+    some(5), num(9, 9), some(5), some(7), is_one(2, [2, 1, 3, 1, 1, 0, 2]), is_one(2, [2, 1, 3, 1, 1, 0, 4]),
+    is_one(2, []), is_one(7, []), within(3, 4), within(4, 3), within(4, 4), within(0, 7), BEGIN, record(), some(0)])
+GIVEN_FOR_THEM = [
+    1, 0, 1, 0, 1, -22, 1, 1, 1, -22, 1, 2, 1, -22, 1, 3, 1, -22, 1, 4, 1, 5, 1, -22,
+    1, -61, 1, 6, 5, 2, 4, 7, 0, 2, 1, -2, 1, 1, 1, 0,
+    1, 0, 1, -2, 6, 0, 3, 1, 1, 0, 2, 3, 0, 3, 0, 1, 1, 1, -2, 1, 0, 1, 0, 3, 1, 3, 0]
 
 
 class Answers(unittest.TestCase):
@@ -58,6 +64,14 @@ class Answers(unittest.TestCase):
         for row in ([GREATEST, 1, GREATEST] * 100, [0, 0, 0] * 9, [64, 0, 0], [0, 0, 16]):
             calls = [0, 4, len(row)] + row + [1, 4, 4]
             self.assertEqual(answers(calls), [1, 0, 1, -22, 1, 0])
+
+    def test_rows_of_choice_and_is_are_passed_whole(self):
+        for row in ([GREATEST, 1] * 100, [0, 0] * 9, [64, 0], [0, 16], []):
+            calls = [0, 5, len(row)] + row + [1, 4, 4]
+            self.assertEqual(answers(calls), [1, 0, 1, -22, 1, 0])
+        for row in ([GREATEST] * 1000, [0] * 1000, [0, 4, 0], [8]):
+            calls = [0, 1, 4, 4, 6, 0, len(row)] + row + [7, 0]
+            self.assertEqual(answers(calls), [1, 0, 1, 0, 1, 0, 3, 1, 0, 4])
 
     def test_gives_back_plain_whole_numbers(self):
         given = answers(list(SOME_OF_EACH))

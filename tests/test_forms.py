@@ -2,7 +2,7 @@
 
 import unittest
 
-from understood.forms import LIST, NUM, RECORD, TEXT, Forms
+from understood.forms import CHOICE, LIST, NUM, RECORD, TEXT, Forms
 
 
 class Kept(unittest.TestCase):
@@ -13,8 +13,10 @@ class Kept(unittest.TestCase):
         forms.tell_list(15, 1, 2)
         forms.tell_record([1, 0, 9, 6, 1, 3])
         forms.tell_record([])
+        forms.tell_choice([1, 9, 6, 3])
         self.assertEqual(forms.told, [
-            (NUM, 3, 4), (TEXT, 7), (LIST, 15, 1, 2), (RECORD, ((1, 0, 9), (6, 1, 3))), (RECORD, ())])
+            (NUM, 3, 4), (TEXT, 7), (LIST, 15, 1, 2), (RECORD, ((1, 0, 9), (6, 1, 3))), (RECORD, ()),
+            (CHOICE, ((1, 9), (6, 3)))])
 
     def test_a_refusal_keeps_what_was_told(self):
         forms = Forms()
@@ -25,6 +27,8 @@ class Kept(unittest.TestCase):
         self.assertEqual(forms.tell_text(101), -22)
         self.assertEqual(forms.tell_list(0, 1, 0), -22)
         self.assertEqual(forms.tell_record([2, 0, 0, 1, 0, 0]), -22)
+        self.assertEqual(forms.tell_choice([]), -22)
+        self.assertEqual(forms.tell_choice([1, 0]), -28)
         self.assertEqual(forms.told, before)
 
     def test_begin_lets_all_go(self):

@@ -13,7 +13,7 @@ STATEMENTS = (
     ast.Raise, ast.Try, ast.Expr, ast.FunctionDef, ast.ClassDef, ast.ImportFrom)
 RULED_OUT = (
     ast.Div, ast.MatMult, ast.SetComp, ast.DictComp, ast.GeneratorExp, ast.NamedExpr, ast.Starred, ast.Await,
-    ast.Yield, ast.YieldFrom, ast.AnnAssign)
+    ast.Yield, ast.YieldFrom, ast.AnnAssign, ast.Set)
 BUILT_IN = set(
     "len range enumerate zip min max sum abs sorted reversed int str bool list tuple dict set frozenset isinstance"
     " ord repr any all divmod Exception ValueError TypeError KeyError IndexError LookupError ZeroDivisionError"
@@ -42,6 +42,12 @@ def bound_names(tree):
         elif isinstance(node, ast.ExceptHandler) and node.name:
             names.append(node.name)
     return names
+
+
+def local_names(tree):
+    """The names that are bound in a function or method, without those of its object's values."""
+    return [node.id if isinstance(node, ast.Name) else node.arg for node in ast.walk(tree)
+            if isinstance(node, ast.arg) or isinstance(node, ast.Name) and isinstance(node.ctx, ast.Store)]
 
 
 class Language(unittest.TestCase):
@@ -116,6 +122,89 @@ class Language(unittest.TestCase):
         for where, node in self.nodes():
             if isinstance(node, ast.Attribute):
                 self.assertIn(node.attr, own | METHODS | {"__init__"}, where)
+
+    def test_methods_and_values_of_objects_have_names_of_their_own(self):
+        methods = set()
+        values = set()
+        for _, node in self.nodes():
+            if isinstance(node, ast.ClassDef):
+                names = [part.name for part in node.body if isinstance(part, ast.FunctionDef)]
+                self.assertEqual(len(names), len(set(names)), node.name)
+                methods.update(names)
+            if isinstance(node, ast.Attribute) and isinstance(node.ctx, ast.Store):
+                values.add(node.attr)
+        self.assertEqual(methods & values, set())
+        for name in (methods | values) - METHODS - set(UNDERSCORED):
+            for kind in (str, int, list, tuple, dict, set, bytes):
+                self.assertFalse(hasattr(kind, name), name)
+
+    def test_locals_are_not_called_like_classes_and_imports(self):
+        for path, tree in self.trees.items():
+            classes = [node.name for node in tree.body if isinstance(node, ast.ClassDef)]
+            imports = [name.name for node in tree.body if isinstance(node, ast.ImportFrom) for name in node.names]
+            for top in tree.body:
+                if isinstance(top, (ast.FunctionDef, ast.ClassDef)):
+                    inner = [name for part in top.body for name in local_names(part)]
+                    inner += local_names(top.args) if isinstance(top, ast.FunctionDef) else []
+                    self.assertEqual(set(inner) & set(classes + imports), set(), path)
+
+    def test_tops_of_files_bind_each_name_once(self):
+        for path, tree in self.trees.items():
+            names = []
+            for node in tree.body:
+                self.assertIsInstance(node, (ast.Expr, ast.ImportFrom, ast.FunctionDef, ast.ClassDef, ast.Assign), path)
+                if isinstance(node, ast.ImportFrom):
+                    names += [name.name for name in node.names]
+                elif isinstance(node, (ast.FunctionDef, ast.ClassDef)):
+                    names.append(node.name)
+                elif isinstance(node, ast.Assign):
+                    names.append(node.targets[0].id)
+            self.assertEqual(len(names), len(set(names)), path)
+
+    def test_names_are_drawn_from_the_files_that_define_them_and_not_in_a_round(self):
+        drawn = {}
+        for path, tree in self.trees.items():
+            here = f"understood.{path.stem}"
+            drawn[here] = set()
+            for node in tree.body:
+                if isinstance(node, ast.ImportFrom):
+                    drawn[here].add(node.module)
+                    there = self.trees[PACKAGE / (node.module.split(".")[1] + ".py")]
+                    self.assertLessEqual({name.name for name in node.names}, set(bound_names(there)), here)
+        while drawn:
+            last = [here for here in drawn if not drawn[here] & set(drawn)]
+            self.assertTrue(last, drawn)
+            for here in last:
+                drawn.pop(here)
+
+    def test_is_stands_beside_none_true_and_false_alone(self):
+        for where, node in self.nodes():
+            if isinstance(node, ast.Compare) and any(isinstance(sign, (ast.Is, ast.IsNot)) for sign in node.ops):
+                self.assertIsInstance(node.comparators[0], ast.Constant, where)
+                self.assertIn(node.comparators[0].value, (None, True, False), where)
+
+    def test_no_annotations_and_plain_parameters(self):
+        for where, node in self.nodes():
+            if isinstance(node, ast.FunctionDef):
+                self.assertIsNone(node.returns, where)
+                self.assertEqual((node.args.vararg, node.args.kwarg, node.args.kwonlyargs), (None, None, []), where)
+                for parameter in node.args.args:
+                    self.assertIsNone(parameter.annotation, where)
+
+    def test_only_errors_of_its_own_are_taken(self):
+        own = {node.name for _, node in self.nodes() if isinstance(node, ast.ClassDef)}
+        for where, node in self.nodes():
+            if isinstance(node, ast.ExceptHandler):
+                self.assertIsInstance(node.type, ast.Name, where)
+                self.assertIn(node.type.id, own, where)
+
+    def test_no_set_and_nothing_walked_later(self):
+        for where, node in self.nodes():
+            if isinstance(node, ast.Assign) and isinstance(node.value, ast.Call):
+                called = node.value.func
+                name = called.attr if isinstance(called, ast.Attribute) else getattr(called, "id", "")
+                self.assertNotIn(name, ("set", "frozenset", "zip", "enumerate", "reversed", "range", "items", "keys",
+                                        "values"), where)
 
 
 if __name__ == "__main__":

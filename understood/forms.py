@@ -4,7 +4,7 @@ MOST_FORMS = 16
 HIGHEST_FORM = 15
 MOST_BYTES = 100
 LONGEST_LIST = 32
-MOST_FIELDS = 8
+MOST_NAMES = 8
 HIGHEST_NAME = 63
 
 # The refusals, as the document numbers them.
@@ -16,6 +16,7 @@ NUM = 0
 TEXT = 1
 LIST = 2
 RECORD = 3
+CHOICE = 4
 
 
 # A form that is referred to need not have been told yet, so only the greatest number a form can have is asked.
@@ -27,6 +28,10 @@ def fields_in(row):
     return [(row[k], row[k + 1], row[k + 2]) for k in range(0, len(row), 3)]
 
 
+def choices_in(row):
+    return [(row[k], row[k + 1]) for k in range(0, len(row), 2)]
+
+
 def names_rise(names):
     for k in range(1, len(names)):
         if names[k] <= names[k - 1]:
@@ -35,19 +40,39 @@ def names_rise(names):
 
 
 def names_are_good(names):
+    if len(names) > MOST_NAMES:
+        return False
     for name in names:
         if name > HIGHEST_NAME:
             return False
     return names_rise(names)
 
 
-def fields_are_good(fields):
-    if len(fields) > MOST_FIELDS:
-        return False
-    for field in fields:
-        if not can_be_form(field[2]):
+def can_be_forms(numbers):
+    for number in numbers:
+        if not can_be_form(number):
             return False
-    return names_are_good([field[0] for field in fields])
+    return True
+
+
+def fields_are_good(fields):
+    return names_are_good([field[0] for field in fields]) and can_be_forms([field[2] for field in fields])
+
+
+def choices_are_good(choices):
+    if len(choices) == 0:
+        return False
+    return names_are_good([one[0] for one in choices]) and can_be_forms([one[1] for one in choices])
+
+
+def forms_referred_to(form):
+    if form[0] == LIST:
+        return [form[1]]
+    if form[0] == RECORD:
+        return [field[2] for field in form[1]]
+    if form[0] == CHOICE:
+        return [one[1] for one in form[1]]
+    return []
 
 
 # Each form is judged by itself before room is asked for: where both refusals are due, the first named is answered.
@@ -58,6 +83,16 @@ class Forms:
     def begin(self):
         self.told = []
         return 0
+
+    def has_form(self, number):
+        return number < len(self.told)
+
+    def refer_to_told_ones(self):
+        for form in self.told:
+            for number in forms_referred_to(form):
+                if not self.has_form(number):
+                    return False
+        return True
 
     def keep(self, form):
         if len(self.told) >= MOST_FORMS:
@@ -85,3 +120,9 @@ class Forms:
         if not fields_are_good(fields):
             return OUT_OF_BOUNDS
         return self.keep((RECORD, tuple(fields)))
+
+    def tell_choice(self, row):
+        choices = choices_in(row)
+        if not choices_are_good(choices):
+            return OUT_OF_BOUNDS
+        return self.keep((CHOICE, tuple(choices)))
